@@ -1,0 +1,98 @@
+package codec
+
+import (
+	"witan/api"
+)
+
+// fault is what a reader gives up with.
+type fault api.Errno
+
+// reader goes through bytes, and panics with a fault at the first that is wrong.
+type reader struct {
+	b  []byte
+	at int
+}
+
+// read lets one go from the place at, and makes an error of its fault.
+func read[T any](b []byte, at int, one func(*reader) T) (x T, end int, e api.Errno) {
+	defer func() {
+		switch p := recover().(type) {
+		case nil:
+		case fault:
+			var none T
+			x, end, e = none, 0, api.Errno(p)
+		default:
+			panic(p)
+		}
+	}()
+	if at < 0 || at > len(b) {
+		panic(fault(api.ErrArg))
+	}
+	r := &reader{b, at}
+	x = one(r)
+	return x, r.at, api.OK
+}
+
+func (r *reader) number() int {
+	var u uint64
+	for i := range most {
+		if r.at == len(r.b) {
+			panic(fault(api.ErrShort))
+		}
+		c := r.b[r.at]
+		r.at++
+		if i == most-1 && c > 1 {
+			panic(fault(api.ErrLong))
+		}
+		u |= uint64(c&0x7f) << (7 * i)
+		if c >= 0x80 {
+			continue
+		}
+		if c == 0 && i > 0 {
+			panic(fault(api.ErrForm))
+		}
+		break
+	}
+	return int(u>>1) ^ -int(u&1)
+}
+
+// length: how many bytes a text or a load has; tail more must stand behind them.
+func (r *reader) length(tail int) int {
+	n := r.number()
+	switch {
+	case n < 0:
+		panic(fault(api.ErrForm))
+	case n > api.MaxLoad:
+		panic(fault(api.ErrLong))
+	case len(r.b)-r.at < n+tail:
+		panic(fault(api.ErrShort))
+	}
+	return n
+}
+
+func (r *reader) text() string {
+	n := r.length(0)
+	s := string(r.b[r.at : r.at+n])
+	r.at += n
+	return s
+}
+
+func (r *reader) frame() []byte {
+	from := r.at
+	n := r.length(sumSize)
+	end := r.at + n
+	if Crc(r.b[from:end]) != r.sum(end) {
+		panic(fault(api.ErrSum))
+	}
+	load := roomy(r.b[r.at:end], 0)
+	r.at = end + sumSize
+	return load
+}
+
+func (r *reader) sum(at int) uint32 {
+	var u uint32
+	for i := range sumSize {
+		u |= uint32(r.b[at+i]) << (8 * i)
+	}
+	return u
+}
