@@ -10,13 +10,34 @@ import (
 	"strings"
 	"testing"
 
+	"witan/api"
 	"witan/codec"
+	"witan/config"
+	"witan/delta"
+	"witan/path"
+	"witan/prep"
+	"witan/quorum"
+	"witan/session"
+	"witan/state"
+	"witan/watch"
+	"witan/znode"
+	"witan/zxid"
 )
 
 // calls: every call that the chapters list, as far as it is built.
 func calls() []any {
 	return []any{
 		codec.PutInt, codec.PutText, codec.Int, codec.Text, codec.Crc, codec.Seal, codec.Open, codec.Frames,
+		zxid.Cmp, zxid.Next, zxid.Last, zxid.Owner, zxid.Fresh, zxid.Text, zxid.Parse,
+		path.Check, path.Parent, path.Name, path.Depth, path.Join, path.Below, path.Numbered,
+		config.Check, config.Sort, config.Find, config.Voters, config.Watchers, config.Text, config.Parse, config.Same,
+		quorum.Is, quorum.All, quorum.Least, quorum.Blocks, quorum.Whole,
+		delta.Apply, delta.Diff, delta.Same,
+		znode.Root, znode.Check, znode.Find, znode.Children, znode.Put, znode.Gone, znode.Same,
+		state.Start, state.Apply, state.All, state.Get, state.Kids, state.Same, state.SameTxn,
+		prep.Make, prep.Right,
+		watch.Add, watch.Fire, watch.Drop, watch.Told,
+		session.Renew, session.Touch, session.Tick,
 	}
 }
 
@@ -37,8 +58,67 @@ func (m maker) number() int {
 	return m.Intn(5)
 }
 
+// likely: a thing of that type as it may be, so that calls do not end at the first look; half of the times.
+func (m maker) likely(t reflect.Type) (any, bool) {
+	if m.Intn(2) == 0 {
+		return nil, false
+	}
+	switch t {
+	case reflect.TypeFor[api.Config]():
+		return m.config(), true
+	case reflect.TypeFor[api.State]():
+		return m.state(), true
+	case reflect.TypeFor[api.History]():
+		return m.history(), true
+	}
+	return nil, false
+}
+
+func (m maker) config() api.Config {
+	c := api.Config{At: m.place(), Kind: 1 + m.Intn(3)}
+	for id := range 5 {
+		if m.Intn(3) > 0 {
+			c.Members = append(c.Members, api.Member{Id: id, Role: 1 + m.Intn(5)/4, Weight: m.Intn(4), Group: m.Intn(3)})
+		}
+	}
+	return c
+}
+
+func (m maker) place() api.Zxid {
+	return api.Zxid{Epoch: m.Intn(3), N: m.Intn(3)}
+}
+
+func (m maker) state() api.State {
+	s := api.State{Nodes: []api.Znode{{Path: "/"}}, Next: 5, Config: m.config(), At: m.place()}
+	for _, p := range []string{"/a", "/a/b", "/b", "/c"} {
+		if m.Intn(3) > 0 && (p != "/a/b" || len(s.Nodes) > 1 && s.Nodes[1].Path == "/a") {
+			s.Nodes = append(s.Nodes, api.Znode{Path: p, Version: m.Intn(3), Kids: m.Intn(3)})
+		}
+	}
+	for n := range 4 {
+		if m.Intn(2) == 0 {
+			s.Sessions = append(s.Sessions, n+1)
+		}
+	}
+	return s
+}
+
+func (m maker) history() api.History {
+	h := api.History{Image: m.state()}
+	for i := range m.Intn(5) {
+		t := m.value(reflect.TypeFor[api.Txn](), 3).Interface().(api.Txn)
+		t.At = api.Zxid{Epoch: 3 + i, N: m.Intn(3)}
+		h.Log = append(h.Log, t)
+	}
+	return h
+}
+
 func (m maker) value(t reflect.Type, deep int) reflect.Value {
 	v := reflect.New(t).Elem()
+	if x, ok := m.likely(t); ok {
+		v.Set(reflect.ValueOf(x))
+		return v
+	}
 	switch t.Kind() {
 	case reflect.Int:
 		v.SetInt(int64(m.number()))
