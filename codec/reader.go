@@ -2,34 +2,28 @@ package codec
 
 import (
 	"witan/api"
+	"witan/fault"
 )
 
-// fault is what a reader gives up with.
-type fault api.Errno
-
-// reader goes through bytes, and panics with a fault at the first that is wrong.
+// reader goes through bytes, and gives up at the first that is wrong.
 type reader struct {
 	b  []byte
 	at int
 }
 
-// read lets one go from the place at, and makes an error of its fault.
-func read[T any](b []byte, at int, one func(*reader) T) (x T, end int, e api.Errno) {
-	defer func() {
-		switch p := recover().(type) {
-		case nil:
-		case fault:
-			var none T
-			x, end, e = none, 0, api.Errno(p)
-		default:
-			panic(p)
-		}
-	}()
-	if at < 0 || at > len(b) {
-		panic(fault(api.ErrArg))
-	}
+// read lets one go from the place at, and tells the place behind it, or with which error it gave up.
+func read[T any](b []byte, at int, one func(*reader) T) (T, int, api.Errno) {
+	var x, none T
 	r := &reader{b, at}
-	x = one(r)
+	e := fault.Try(func() {
+		if at < 0 || at > len(b) {
+			fault.Give(api.ErrArg)
+		}
+		x = one(r)
+	})
+	if e != api.OK {
+		return none, 0, e
+	}
 	return x, r.at, api.OK
 }
 
@@ -37,19 +31,19 @@ func (r *reader) number() int {
 	var u uint64
 	for i := range most {
 		if r.at == len(r.b) {
-			panic(fault(api.ErrShort))
+			fault.Give(api.ErrShort)
 		}
 		c := r.b[r.at]
 		r.at++
 		if i == most-1 && c > 1 {
-			panic(fault(api.ErrLong))
+			fault.Give(api.ErrLong)
 		}
 		u |= uint64(c&0x7f) << (7 * i)
 		if c >= 0x80 {
 			continue
 		}
 		if c == 0 && i > 0 {
-			panic(fault(api.ErrForm))
+			fault.Give(api.ErrForm)
 		}
 		break
 	}
@@ -61,11 +55,11 @@ func (r *reader) length(tail int) int {
 	n := r.number()
 	switch {
 	case n < 0:
-		panic(fault(api.ErrForm))
+		fault.Give(api.ErrForm)
 	case n > api.MaxLoad:
-		panic(fault(api.ErrLong))
+		fault.Give(api.ErrLong)
 	case len(r.b)-r.at < n+tail:
-		panic(fault(api.ErrShort))
+		fault.Give(api.ErrShort)
 	}
 	return n
 }
@@ -82,7 +76,7 @@ func (r *reader) frame() []byte {
 	n := r.length(sumSize)
 	end := r.at + n
 	if Crc(r.b[from:end]) != r.sum(end) {
-		panic(fault(api.ErrSum))
+		fault.Give(api.ErrSum)
 	}
 	load := roomy(r.b[r.at:end], 0)
 	r.at = end + sumSize

@@ -17,6 +17,7 @@ import (
 	"witan/path"
 	"witan/prep"
 	"witan/quorum"
+	"witan/record"
 	"witan/session"
 	"witan/state"
 	"witan/watch"
@@ -38,6 +39,8 @@ func calls() []any {
 		prep.Make, prep.Right,
 		watch.Add, watch.Fire, watch.Drop, watch.Told,
 		session.Renew, session.Touch, session.Tick,
+		record.PutZxid, record.PutConfig, record.PutTxn, record.PutState, record.PutRequest, record.PutMsg,
+		record.Config, record.Txn, record.State, record.Request, record.Msg,
 	}
 }
 
