@@ -10,16 +10,24 @@ import (
 	"strings"
 	"testing"
 
+	"witan/ack"
 	"witan/api"
 	"witan/codec"
 	"witan/config"
 	"witan/delta"
+	"witan/disk"
+	"witan/elect"
+	"witan/history"
+	"witan/journal"
+	"witan/keep"
 	"witan/path"
 	"witan/prep"
 	"witan/quorum"
+	"witan/reconf"
 	"witan/record"
 	"witan/session"
 	"witan/state"
+	"witan/vote"
 	"witan/watch"
 	"witan/znode"
 	"witan/zxid"
@@ -41,6 +49,14 @@ func calls() []any {
 		session.Renew, session.Touch, session.Tick,
 		record.PutZxid, record.PutConfig, record.PutTxn, record.PutState, record.PutRequest, record.PutMsg,
 		record.Config, record.Txn, record.State, record.Request, record.Msg,
+		disk.New, disk.Used, disk.Read, disk.Append, disk.Sync, disk.Cut, disk.Rename, disk.Remove, disk.Arm, disk.Crash, disk.Start, disk.Same,
+		journal.Name, journal.Add, journal.Read, journal.Keep, journal.Fresh,
+		keep.Format, keep.Load, keep.Save, keep.Same,
+		history.Base, history.Last, history.Marks, history.Check, history.Own, history.Upto, history.Grow, history.StateAt, history.Squash, history.Needs, history.Make, history.Do, history.Same, history.SamePlan,
+		vote.Better, vote.Lay, vote.Backs, vote.Won, vote.Best,
+		elect.Begin, elect.Hear, elect.Winner,
+		ack.Set, ack.Commit, ack.Committed, ack.Learners,
+		reconf.Ask, reconf.Heir, reconf.Role, reconf.Others, reconf.Voting,
 	}
 }
 
