@@ -108,3 +108,11 @@ func Word(w api.Word) api.Word {
 	w.Names = slices.Clone(w.Names)
 	return w
 }
+
+// Peer: p in new memory.
+func Peer(p api.Peer) api.Peer {
+	p.History = History(p.History)
+	p.Seek.Heard = slices.Clone(p.Seek.Heard)
+	p.Learners = List(p.Learners, Learner)
+	return p
+}
