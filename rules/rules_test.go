@@ -20,6 +20,8 @@ import (
 	"witan/history"
 	"witan/journal"
 	"witan/keep"
+	"witan/lead"
+	"witan/learn"
 	"witan/path"
 	"witan/prep"
 	"witan/quorum"
@@ -57,6 +59,8 @@ func calls() []any {
 		elect.Begin, elect.Hear, elect.Winner,
 		ack.Set, ack.Commit, ack.Committed, ack.Learners,
 		reconf.Ask, reconf.Heir, reconf.Role, reconf.Others, reconf.Voting,
+		lead.Own, lead.Begin, lead.Hear, lead.Place, lead.Propose, lead.Tick, lead.Lost,
+		learn.Begin, learn.Hear, learn.Tick, learn.Lost,
 	}
 }
 
