@@ -23,6 +23,7 @@ import (
 	"witan/lead"
 	"witan/learn"
 	"witan/path"
+	"witan/peer"
 	"witan/prep"
 	"witan/quorum"
 	"witan/reconf"
@@ -61,6 +62,7 @@ func calls() []any {
 		reconf.Ask, reconf.Heir, reconf.Role, reconf.Others, reconf.Voting,
 		lead.Own, lead.Begin, lead.Hear, lead.Place, lead.Propose, lead.Tick, lead.Lost,
 		learn.Begin, learn.Hear, learn.Tick, learn.Lost,
+		peer.Start, peer.Step,
 	}
 }
 
