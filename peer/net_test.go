@@ -201,8 +201,12 @@ func (x *net) anything() {
 
 // calm: nothing is lost any more, and all are up.
 func (x *net) calm(rounds int) {
-	for pair := range x.dead {
-		x.lose(pair[0], pair[1])
+	for a := range x.peers {
+		for b := range x.peers {
+			if x.dead[[2]int{a, b}] {
+				x.lose(a, b)
+			}
+		}
 	}
 	for id := range x.peers {
 		if !x.up[id] {
