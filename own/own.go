@@ -116,3 +116,17 @@ func Peer(p api.Peer) api.Peer {
 	p.Learners = List(p.Learners, Learner)
 	return p
 }
+
+// Server: s in new memory.
+func Server(s api.Server) api.Server {
+	s.Disk = Disk(s.Disk)
+	s.Saved = Saved(s.Saved)
+	s.Peer = Peer(s.Peer)
+	s.State = State(s.State)
+	s.Watches = slices.Clone(s.Watches)
+	s.Conns = slices.Clone(s.Conns)
+	s.Waits = slices.Clone(s.Waits)
+	s.Seen = slices.Clone(s.Seen)
+	s.Touched = slices.Clone(s.Touched)
+	return s
+}

@@ -28,6 +28,7 @@ import (
 	"witan/quorum"
 	"witan/reconf"
 	"witan/record"
+	"witan/server"
 	"witan/session"
 	"witan/state"
 	"witan/vote"
@@ -63,6 +64,7 @@ func calls() []any {
 		lead.Own, lead.Begin, lead.Hear, lead.Place, lead.Propose, lead.Tick, lead.Lost,
 		learn.Begin, learn.Hear, learn.Tick, learn.Lost,
 		peer.Start, peer.Step,
+		server.New, server.Serves, server.Step, server.Same,
 	}
 }
 
