@@ -12,6 +12,7 @@ import (
 
 	"witan/ack"
 	"witan/api"
+	"witan/client"
 	"witan/codec"
 	"witan/config"
 	"witan/delta"
@@ -19,9 +20,11 @@ import (
 	"witan/elect"
 	"witan/history"
 	"witan/journal"
+	"witan/judge"
 	"witan/keep"
 	"witan/lead"
 	"witan/learn"
+	"witan/link"
 	"witan/path"
 	"witan/peer"
 	"witan/prep"
@@ -65,6 +68,9 @@ func calls() []any {
 		learn.Begin, learn.Hear, learn.Tick, learn.Lost,
 		peer.Start, peer.Step,
 		server.New, server.Serves, server.Step, server.Same,
+		link.Two, link.Has, link.Set, link.Send, link.Firsts, link.Take, link.Reset, link.Alone,
+		client.New, client.Connect, client.Ask, client.Read, client.Beat, client.Hear, client.Lost, client.Move,
+		judge.Log, judge.Chain, judge.Primary, judge.Linear, judge.Judge,
 	}
 }
 
@@ -267,8 +273,9 @@ func TestRules(t *testing.T) {
 		f := reflect.ValueOf(c)
 		name := runtime.FuncForPC(f.Pointer()).Name()
 		t.Run(name, func(t *testing.T) {
+			t.Parallel()
 			m := maker{rand.New(rand.NewSource(int64(len(name)))), 4}
-			for i := range 1500 {
+			for i := range 1000 {
 				m.wild = 2 + i%60
 				var args []reflect.Value
 				for i := range f.Type().NumIn() {
