@@ -130,3 +130,29 @@ func Server(s api.Server) api.Server {
 	s.Touched = slices.Clone(s.Touched)
 	return s
 }
+
+// Client: c in new memory.
+func Client(c api.Client) api.Client {
+	c.Notes = slices.Clone(c.Notes)
+	return c
+}
+
+// Fact: f in new memory.
+func Fact(f api.Fact) api.Fact {
+	f.Txn = Txn(f.Txn)
+	f.Ask = Request(f.Ask)
+	f.Word = Word(f.Word)
+	return f
+}
+
+// World: w in new memory.
+func World(w api.World) api.World {
+	w.Config = Config(w.Config)
+	w.Servers = List(w.Servers, Server)
+	w.Mail = List(w.Mail, Msg)
+	w.Cut = slices.Clone(w.Cut)
+	w.Clients = List(w.Clients, Client)
+	w.Words = List(w.Words, Word)
+	w.Facts = List(w.Facts, Fact)
+	return w
+}

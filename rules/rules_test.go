@@ -36,6 +36,7 @@ import (
 	"witan/state"
 	"witan/vote"
 	"witan/watch"
+	"witan/world"
 	"witan/znode"
 	"witan/zxid"
 )
@@ -71,6 +72,7 @@ func calls() []any {
 		link.Two, link.Has, link.Set, link.Send, link.Firsts, link.Take, link.Reset, link.Alone,
 		client.New, client.Connect, client.Ask, client.Read, client.Beat, client.Hear, client.Lost, client.Move,
 		judge.Log, judge.Chain, judge.Primary, judge.Linear, judge.Judge,
+		world.New, world.Step, world.Run,
 	}
 }
 
