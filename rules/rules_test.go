@@ -31,6 +31,7 @@ import (
 	"witan/quorum"
 	"witan/reconf"
 	"witan/record"
+	"witan/script"
 	"witan/server"
 	"witan/session"
 	"witan/state"
@@ -73,6 +74,7 @@ func calls() []any {
 		client.New, client.Connect, client.Ask, client.Read, client.Beat, client.Hear, client.Lost, client.Move,
 		judge.Log, judge.Chain, judge.Primary, judge.Linear, judge.Judge,
 		world.New, world.Step, world.Run,
+		script.Parse, script.Print, script.Report,
 	}
 }
 
