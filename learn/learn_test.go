@@ -134,7 +134,7 @@ func TestFollow(t *testing.T) {
 		again, _, _ = hear(q, api.Msg{Kind: api.MsgReady, At: z(16, 2)})
 		same(t, "MsgReady of no mark", []any{again.Phase, again.Done}, []any{4, z(0, 0)})
 		again, l, ok = hear(q, api.Msg{Kind: api.MsgCommit, At: z(16, 1)})
-		same(t, "MsgCommit", []any{again.Phase, again.Done, len(l), ok}, []any{phase, known, 0, true})
+		same(t, "MsgCommit", []any{again.Phase, again.Done, again.Wait, len(l), ok}, []any{phase, known, 0, 0, true})
 		again, _, _ = hear(q, api.Msg{Kind: api.MsgCommit, At: z(16, 2)})
 		same(t, "MsgCommit of no mark", again.Done, z(0, 0))
 		again, l, ok = hear(p, api.Msg{Kind: api.MsgPing})
@@ -176,8 +176,8 @@ func TestNothing(t *testing.T) {
 			same(t, fmt.Sprint("a message that changes nothing ", i, " in Phase ", phase), []any{q, l, ok}, []any{p, []api.Msg{}, true})
 		}
 		for kind := range 15 {
-			said := kind == api.MsgEpoch && phase == 1 || kind == api.MsgSync && phase == 2 || kind == api.MsgCommit && phase == 4 ||
-				(kind == api.MsgPropose || kind == api.MsgInform || kind == api.MsgReady || kind == api.MsgPing) && phase > 2
+			said := kind == api.MsgEpoch && phase == 1 || kind == api.MsgSync && phase == 2 ||
+				(kind == api.MsgPropose || kind == api.MsgInform || kind == api.MsgReady || kind == api.MsgCommit || kind == api.MsgPing) && phase > 2
 			m := api.Msg{Kind: kind, Epoch: max(p.Epoch, 16), Plan: api.Plan{Kind: api.PlanDiff}, Txn: api.Txn{At: z(16, 1)}}
 			q, l, ok := hear(p, m)
 			same(t, fmt.Sprint("kind ", kind, " in Phase ", phase), []bool{fmt.Sprint(q) != fmt.Sprint(p), ok}, []bool{said, true})

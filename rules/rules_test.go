@@ -301,3 +301,43 @@ func TestRules(t *testing.T) {
 		})
 	}
 }
+
+// TestWorlds: the rules along a world in which much happens, so that what lies deep is reached.
+func TestWorlds(t *testing.T) {
+	lines := []string{"ask 0 c:/a:x", "ask 0 co:/b:x", "ask 1 cs:/q:x", "ask 0 s:/a:*:y d:/b:*", "node 1 /a watch", "kids 1 / watch", "config 0 0 3p1g0", "config 1 0 -2", "close 1", "connect 0 1", "connect 1 0",
+		"connect 2 3", "crash 2 9 9", "start 2", "crash 0", "start 0", "room 1 2000", "room 1 90000", "start 1", "arm 1 3", "cut 0 1", "heal 0 1", "reset 1 2", "calm 1", "calm 2", "come 1", "come 0", "say 0", "tick 0", "beat 1", "leave 0"}
+	r := rand.New(rand.NewSource(1))
+	lot := "world 4 90000 0.0 1 0p1g0 1p1g0 2p1g0 3o1g0\ncalm 3\nconnect 0 1\nconnect 1 3\ncalm 1\n"
+	for range 500 {
+		lot += lines[r.Intn(len(lines))] + "\n"
+		if r.Intn(3) == 0 {
+			lot += "calm 1\n"
+		}
+	}
+	x, line, e := script.Parse(lot)
+	if e != api.OK {
+		t.Fatalf("the line %d is wrong: %d", line, e)
+	}
+	w, _ := world.New(x.Config, x.N, x.Size)
+	for id := range x.N {
+		w = world.Step(w, api.Act{Kind: api.ActStart, A: id})
+	}
+	for i, a := range x.Acts {
+		args := []reflect.Value{reflect.ValueOf(w), reflect.ValueOf(a)}
+		was := whole(args)
+		now := world.Step(w, a)
+		if out := []reflect.Value{reflect.ValueOf(now)}; whole(args) != was || shared(args, out) {
+			t.Fatalf("the %d-th act, %+v, changes or shares what was handed in", i, a)
+		}
+		w = now
+	}
+	all, _ := world.Run(x.Config, x.N, x.Size, x.Acts)
+	if text([]reflect.Value{reflect.ValueOf(all)}, false) != text([]reflect.Value{reflect.ValueOf(w)}, false) {
+		t.Errorf("act by act comes another world")
+	}
+	if len(w.Facts) < 100 {
+		t.Errorf("too little happened: %d facts", len(w.Facts))
+	}
+}
+
+func whole(l []reflect.Value) string { return text(l, true) }

@@ -55,8 +55,10 @@ func (r *run) at(id int, e api.Event) {
 	r.w.Servers[id] = s
 	r.write(id, out)
 	r.w.Words = append(r.w.Words, out.Words...)
-	mail, lost := link.Send(r.w.Mail, out.Msgs, r.w.Cut)
-	r.w.Mail = mail
+	var lost []api.Pair
+	if len(out.Msgs) > 0 {
+		r.w.Mail, lost = link.Send(r.w.Mail, out.Msgs, r.w.Cut)
+	}
 	if was && !s.Up {
 		r.fell(id)
 	}
