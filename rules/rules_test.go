@@ -25,6 +25,7 @@ import (
 	"witan/lead"
 	"witan/learn"
 	"witan/link"
+	"witan/own"
 	"witan/path"
 	"witan/peer"
 	"witan/prep"
@@ -75,6 +76,13 @@ func calls() []any {
 		judge.Log, judge.Chain, judge.Primary, judge.Linear, judge.Judge,
 		world.New, world.Step, world.Run,
 		script.Parse, script.Print, script.Report,
+	}
+}
+
+// copies: the calls that lay a thing anew, and change nothing of it.
+func copies() []any {
+	return []any{
+		own.Config, own.State, own.Txn, own.Txns, own.History, own.Saved, own.Request, own.Plan, own.Msg, own.Learner, own.Disk, own.Word, own.Peer, own.Server, own.Client, own.Fact, own.World, history.Own,
 	}
 }
 
@@ -299,6 +307,20 @@ func TestRules(t *testing.T) {
 				}
 			}
 		})
+	}
+}
+
+func TestCopies(t *testing.T) {
+	for _, c := range copies() {
+		f := reflect.ValueOf(c)
+		m := maker{rand.New(rand.NewSource(1)), 9}
+		for range 200 {
+			args := []reflect.Value{m.value(f.Type().In(0), 0)}
+			out := f.Call(args)
+			if shared(args, out) || text(args, false) != text(out, false) {
+				t.Fatalf("%s answers %+v of %+v", runtime.FuncForPC(f.Pointer()).Name(), out, args)
+			}
+		}
 	}
 }
 
