@@ -25,8 +25,20 @@ type plain struct {
 }
 
 var plains = [...]plain{
-	{"come", api.ActCome, "N"}, {"say", api.ActSay, "N"}, {"tick", api.ActTick, "A"}, {"reset", api.ActReset, "AB"}, {"cut", api.ActCut, "AB"}, {"heal", api.ActHeal, "AB"}, {"crash", api.ActCrash, "AK"},
-	{"start", api.ActStart, "A"}, {"arm", api.ActArm, "AN"}, {"room", api.ActRoom, "AN"}, {"connect", api.ActConnect, "AB"}, {"beat", api.ActBeat, "A"}, {"leave", api.ActLeave, "A"}, {"calm", api.ActCalm, "N"},
+	{"come", api.ActCome, "N"},
+	{"say", api.ActSay, "N"},
+	{"tick", api.ActTick, "A"},
+	{"reset", api.ActReset, "AB"},
+	{"cut", api.ActCut, "AB"},
+	{"heal", api.ActHeal, "AB"},
+	{"crash", api.ActCrash, "AK"},
+	{"start", api.ActStart, "A"},
+	{"arm", api.ActArm, "AN"},
+	{"room", api.ActRoom, "AN"},
+	{"connect", api.ActConnect, "AB"},
+	{"beat", api.ActBeat, "A"},
+	{"leave", api.ActLeave, "A"},
+	{"calm", api.ActCalm, "N"},
 }
 
 // reader goes through the words of a line; wrong is set at the first that is not as it must be.
