@@ -60,6 +60,32 @@ func TestApply(t *testing.T) {
 	same(t, "All of none", All(s, nil), s)
 }
 
+// P8.2: of sessions that do not rise, or stand more than once, too.
+func TestOpenOnce(t *testing.T) {
+	for _, c := range []struct {
+		was, open, behind []int
+	}{
+		{[]int{2, 2}, []int{2}, []int{2}},
+		{[]int{5, 2}, []int{2}, []int{2, 5}},
+		{[]int{1, 2, 2, 3, 2}, []int{2}, []int{1, 2, 3}},
+		{[]int{9, 9, 4}, []int{5}, []int{5, 9, 9, 4}},
+		{[]int{1, 7, 3, 7, 2}, []int{7, 2}, []int{1, 2, 7, 3}},
+		{[]int{4, 4}, []int{0, -4, api.MaxCount + 1}, []int{4, 4}},
+		{nil, []int{2}, []int{2}},
+	} {
+		s := api.State{Sessions: append([]int{}, c.was...), Next: 3}
+		var l []api.Part
+		for _, id := range c.open {
+			l = append(l, api.Part{Kind: api.PartOpen, Session: id})
+		}
+		same(t, fmt.Sprint(c.was, " behind PartOpen of ", c.open), Apply(s, txn(1, l...)).Sessions, c.behind)
+		same(t, "handed in", s.Sessions, c.was)
+	}
+	s := api.State{Sessions: []int{2, 5, 2}}
+	same(t, "PartClose", Apply(s, txn(1, api.Part{Kind: api.PartClose, Session: 2})).Sessions, []int{5})
+	same(t, "handed in", s.Sessions, []int{2, 5, 2})
+}
+
 // P8.3
 func TestGet(t *testing.T) {
 	s := All(Start(one()), []api.Txn{txn(1, put("/a", "x"), put("/a/b", ""), put("/a/c", ""))})
