@@ -58,6 +58,32 @@ func TestLay(t *testing.T) {
 	same(t, "Backs", [][]int{Backs(all, from(77, w)), Backs(nil, w)}, [][]int{{9, 3}, nil})
 }
 
+// P17.2: of lists that do not rise, too.
+func TestLayAnyList(t *testing.T) {
+	x := v(7, 7, 7, 7)
+	for _, c := range []struct {
+		was  []int
+		id   int
+		want []int
+	}{
+		{[]int{6, 0}, 6, []int{6, 0}}, {[]int{1, 6, 2, 6, 3}, 6, []int{1, 6, 2, 3}}, {[]int{7, 6, 0}, 6, []int{6, 7, 0}}, {[]int{6, 6}, 6, []int{6}},
+		{[]int{5, 0, 5}, -1, []int{-1, 5, 0, 5}}, {[]int{2, 1}, 3, []int{2, 1, 3}}, {[]int{-3, -3, -9}, -3, []int{-3, -9}},
+	} {
+		var l []api.Vote
+		for _, id := range c.was {
+			l = append(l, api.Vote{From: id})
+		}
+		var want []api.Vote
+		for _, id := range c.want {
+			want = append(want, api.Vote{From: id})
+			if id == c.id {
+				want[len(want)-1] = from(id, x)
+			}
+		}
+		same(t, fmt.Sprint("Lay of ", c.id, " into ", c.was), Lay(l, from(c.id, x)), want)
+	}
+}
+
 func majority(n int) api.Config {
 	c := api.Config{Kind: api.Majority}
 	for id := range n {
