@@ -53,6 +53,31 @@ func TestLearners(t *testing.T) {
 	same(t, "at the ends", [][]api.Learner{Learners(l, x(0))[:1], Learners(l, x(9))[4:], Learners(nil, x(3))}, [][]api.Learner{{x(0)}, {x(9)}, {x(3)}})
 }
 
+// P19.1: of lists that do not rise, too.
+func TestLearnersAnyList(t *testing.T) {
+	for _, c := range []struct {
+		was  []int
+		id   int
+		want []int
+	}{
+		{[]int{5, 0}, 5, []int{5, 0}}, {[]int{1, 5, 2, 5, 3}, 5, []int{1, 5, 2, 3}}, {[]int{7, 5, 0}, 5, []int{5, 7, 0}}, {[]int{5, 5}, 5, []int{5}},
+		{[]int{5, 0, 5}, -1, []int{-1, 5, 0, 5}}, {[]int{2, 1}, 3, []int{2, 1, 3}}, {[]int{-3, -3, -9}, -3, []int{-3, -9}},
+	} {
+		var l, want []api.Learner
+		for _, id := range c.was {
+			l = append(l, api.Learner{Id: id})
+		}
+		x := api.Learner{Id: c.id, Quiet: 9}
+		for _, id := range c.want {
+			want = append(want, api.Learner{Id: id})
+			if id == c.id {
+				want[len(want)-1] = x
+			}
+		}
+		same(t, fmt.Sprint("Learners of ", c.was, " and ", c.id), Learners(l, x), want)
+	}
+}
+
 // P19.2
 func TestSet(t *testing.T) {
 	l := []api.Learner{{Id: 1, Phase: 3, Acked: z(5)}, {Id: 7, Phase: 4, Acked: z(4)}, {Id: 2, Phase: 4, Acked: z(5)}, {Id: 0, Phase: 4, Acked: z(9)}, {Id: 3, Phase: 5, Acked: z(6)}, {Id: 3, Phase: 4, Acked: z(7)}}
