@@ -183,6 +183,26 @@ func TestGather(t *testing.T) {
 	same(t, "without marks", []any{got.l, got.p.Learners[0].Phase}, []any{[]string{}, 1})
 }
 
+const five = " 0p1g0 1p1g0 2p1g0 3p1g0 4p1g0"
+
+// P21.3, P21.4, P21.9: as long as no epoch is chosen there is none that a message could be of.
+func TestNotChosen(t *testing.T) {
+	p := hears(began(of(five, z(1, 1))), info(1, 0))
+	p.Learners[0].Quiet = 2
+	for i, m := range []api.Msg{
+		ackEpoch(1, 0, 0, z(1, 1), z(0, 0), z(1, 1)), ackEpoch(1, 0, 9, z(0, 0), z(0, 0)), ackEpoch(1, 0, 0, z(0, 0), z(0, 0), z(2, 1)), ackEpoch(1, 16, 0, z(1, 1), z(0, 0)),
+		ackSync(1, 0, z(1, 1)), acked(1, 0, z(1, 1)), {From: 1, Kind: api.MsgPong},
+	} {
+		same(t, fmt.Sprint("as no epoch is chosen ", i), heard(p, m), call{p, []string{}, true})
+	}
+	p = hears(p, ackEpoch(1, 0, 0, z(1, 1), z(0, 0), z(1, 1)), info(2, 0))
+	same(t, "chosen behind that", []any{p.Epoch, p.Phase, p.Done, p.Learners[0].Phase, p.Learners[1].Phase}, []any{16, 1, z(0, 0), 1, 1})
+	p = hears(p, ackEpoch(2, 16, 0, z(0, 0), z(0, 0)))
+	same(t, "one has promised", []any{p.Phase, p.Learners[0].Phase, p.Learners[1].Phase}, []any{1, 1, 2})
+	p = hears(p, ackEpoch(1, 16, 0, z(0, 0), z(0, 0)))
+	same(t, "both have promised", []any{p.Phase, p.Learners[0].Phase, p.Learners[1].Phase}, []any{2, 3, 3})
+}
+
 // P21.5
 func TestEstablish(t *testing.T) {
 	p := hears(began(of(three, z(1, 1))), info(1, 0), info(2, 0), info(3, 0), ackEpoch(3, 16, 0, z(0, 0), z(0, 0)), ackEpoch(1, 16, 0, z(0, 0), z(0, 0)))

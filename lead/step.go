@@ -32,7 +32,12 @@ func (s *step) concerns(m api.Msg) bool {
 	if m.From == s.p.Id || m.From < 0 || m.From >= api.MaxServers {
 		return false
 	}
-	return m.Kind == api.MsgInfo || m.Epoch == s.p.Epoch
+	return m.Kind == api.MsgInfo || s.chosen() && m.Epoch == s.p.Epoch
+}
+
+// chosen: whether there is an epoch of this leader. As long as there is none, nobody can have promised it.
+func (s *step) chosen() bool {
+	return s.p.Epoch != 0
 }
 
 // doing: what is done with a message of that kind.
@@ -55,7 +60,7 @@ func (s *step) doing(kind int) func(api.Msg) {
 func (s *step) nothing(api.Msg) {}
 
 func (s *step) info(m api.Msg) {
-	if s.p.Epoch != 0 && m.Epoch > s.p.Epoch {
+	if s.chosen() && m.Epoch > s.p.Epoch {
 		s.gaveUp = true
 		return
 	}
@@ -65,7 +70,7 @@ func (s *step) info(m api.Msg) {
 	}
 	x.Accepted, x.Quiet = m.Epoch, 0
 	s.lay(x)
-	if s.p.Epoch != 0 {
+	if s.chosen() {
 		s.send(x.Id, api.Msg{Kind: api.MsgEpoch})
 		return
 	}
@@ -127,7 +132,7 @@ func (s *step) ahead(m api.Msg) bool {
 
 // gather: with a quorum of promises the leader's history is the new epoch's.
 func (s *step) gather() {
-	if s.p.Epoch == 0 || !s.enough(ack.Set(s.p.Id, s.p.Learners, promised, api.Zxid{})) {
+	if !s.chosen() || !s.enough(ack.Set(s.p.Id, s.p.Learners, promised, api.Zxid{})) {
 		return
 	}
 	s.p.Phase, s.p.Wait, s.p.Current = brings, 0, s.p.Epoch
