@@ -179,6 +179,11 @@ func TestGather(t *testing.T) {
 		got := heard(p, c.m)
 		same(t, fmt.Sprint("a history ", i), []any{got.ok, got.p.Done}, []any{c.ok, c.done})
 	}
+	for i, q := range []api.Peer{again.p, hears(full(), info(2, 0))} {
+		q = hears(q, info(1, 0))
+		got = heard(q, ackEpoch(1, 16, 99, z(1, 2), z(0, 0), z(99, 9)))
+		same(t, fmt.Sprint("a better history, too late ", i), []any{got.ok, got.p.Done, got.p.Learners[0].Phase}, []any{true, q.Done, 3})
+	}
 	got = heard(p, ackEpoch(1, 16, 0, z(0, 0)))
 	same(t, "without marks", []any{got.l, got.p.Learners[0].Phase}, []any{[]string{}, 1})
 }
@@ -321,12 +326,13 @@ func TestNothing(t *testing.T) {
 	for _, mode := range []int{0, api.Looking, api.Learning} {
 		q := full()
 		q.Mode = mode
-		a, l, _ := Hear(q, info(2, 0))
-		b, m, _ := Propose(q, api.Txn{At: z(16, 1)})
-		c, n, _ := Tick(q)
-		d, o, _ := Lost(q, 1)
+		a, l, first := Hear(q, info(2, 0))
+		b, m, second := Propose(q, api.Txn{At: z(16, 1)})
+		c, n, third := Tick(q)
+		d, o, fourth := Lost(q, 1)
 		_, ok := Place(q)
 		same(t, "one that does not lead", []any{a, b, c, d, len(l) + len(m) + len(n) + len(o), ok}, []any{q, q, q, q, 0, false})
+		same(t, "it has nothing to give up", []bool{first, second, third, fourth}, []bool{true, true, true, true})
 	}
 }
 

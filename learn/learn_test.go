@@ -189,10 +189,11 @@ func TestNothing(t *testing.T) {
 	for _, mode := range []int{0, api.Looking, api.Leading} {
 		p := in(4)
 		p.Mode = mode
-		a, l, _ := hear(p, api.Msg{Kind: api.MsgPing})
-		b, m, _ := Tick(p)
-		c, n, _ := Lost(p, 0)
+		a, l, first := hear(p, api.Msg{Kind: api.MsgPing})
+		b, m, second := Tick(p)
+		c, n, third := Lost(p, 0)
 		same(t, "one that does not learn", []any{a, b, c, len(l) + len(m) + len(n)}, []any{p, p, p, 0})
+		same(t, "it has nothing to give up", []bool{first, second, third}, []bool{true, true, true})
 	}
 }
 

@@ -58,6 +58,7 @@ func connect(client, to int) api.Act { return api.Act{Kind: api.ActConnect, A: c
 func TestNew(t *testing.T) {
 	w, e := New(of(2), 3, 5000)
 	same(t, "New", []any{e, len(w.Servers), len(w.Clients), len(w.Mail) + len(w.Words) + len(w.Facts) + len(w.Cut)}, []any{api.OK, 3, 4, 0})
+	same(t, "its config", w.Config, of(2))
 	for id, s := range w.Servers {
 		same(t, "a server", []any{s.Id, s.Up, s.Disk.Cap, len(s.Disk.Files)}, []any{id, false, 5000, 1})
 	}
@@ -149,6 +150,10 @@ func TestServers(t *testing.T) {
 			same(t, "of no server", fmt.Sprint(Step(w, a)) == fmt.Sprint(w), true)
 		}
 	}
+	settled := ran(t, 3, 3, calm(3))
+	for _, kind := range []int{api.ActReset, api.ActCut, api.ActHeal} {
+		same(t, "of one server alone", fmt.Sprint(Step(settled, api.Act{Kind: kind, A: 2, B: 2})) == fmt.Sprint(settled), true)
+	}
 	cut := acts(w, api.Act{Kind: api.ActCut, A: 2, B: 0}, api.Act{Kind: api.ActTick, A: 0})
 	same(t, "ActCut", []any{cut.Cut, between(cut, 0, 2), between(cut, 0, 1)}, []any{[]api.Pair{{A: 0, B: 2}}, 0, 3})
 	cut = acts(cut, api.Act{Kind: api.ActHeal, A: 0, B: 2}, api.Act{Kind: api.ActTick, A: 0})
@@ -196,6 +201,7 @@ func TestClients(t *testing.T) {
 	asked := Step(w, create(0, "/a"))
 	f := asked.Facts[from]
 	same(t, "FactCall", []any{f.Kind, f.Node, f.Xid, f.Ask.Ops[0].Path, len(asked.Words)}, []any{api.FactCall, 0, asked.Clients[0].Waits, "/a", 1})
+	same(t, "what was asked", f.Ask, create(0, "/a").Ask)
 	same(t, "while it waits", fmt.Sprint(Step(asked, create(0, "/b"))) == fmt.Sprint(asked), true)
 	left := Step(asked, api.Act{Kind: api.ActLeave, A: 0})
 	same(t, "ActLeave", []any{kinds(left.Facts[from:]), len(left.Words), left.Clients[0].Phase, len(left.Servers[0].Conns)}, []any{[]int{api.FactCall, api.FactLost}, 0, 0, 0})
